@@ -1,0 +1,1 @@
+"""Veiled: counts hidden in a table whose sums are shown."""
