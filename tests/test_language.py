@@ -15,6 +15,10 @@ INTERFACE = {
     "errors": ["VeilError", "BadTable", "BadView", "BadPlace", "BadNumber", "NoTable", "NotHidden"],
     "tables": ["is_table", "row_sums", "column_sums", "small_places"],
     "views": ["is_view", "view_of", "hidden_places", "rests", "has_view"],
+    "filling": ["filled"],
+    "bounds": ["ends", "walls", "given_away"],
+    "hiding": ["hide"],
+    "reader": ["holds"],
 }
 
 BUILTINS = set(
