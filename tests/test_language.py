@@ -158,6 +158,16 @@ class Words(unittest.TestCase):
                 if isinstance(node, ast.Call) and isinstance(node.func, ast.Attribute):
                     self.assertIn(node.func.attr, METHODS | own | {"__init__"}, name)
 
+    def test_barred_words(self):
+        """Words that stand nowhere, not even in comments, and names that no function or variable has."""
+        for name, path in files().items():
+            self.assertNotRegex(path.read_text(), r"_wall|_WallAttr", name)
+            for node in ast.walk(ast.parse(path.read_text())):
+                word = getattr(node, "id", getattr(node, "arg", getattr(node, "name", None)))
+                if isinstance(word, str):
+                    self.assertNotRegex(word, r"^(_pe_|_dcw_|_enum_|_cm_|_lay_|_law_|_stub_|_sre|__(?!init__$))", name)
+                    self.assertNotIn(word, ("register", "mro", "elements", "open", "input", "law"), name)
+
     def test_strings(self):
         for name, tree in trees().items():
             for text in plain_texts(tree):
